@@ -1,0 +1,1 @@
+"""Bucketfall: what is least falls out first."""
