@@ -1,8 +1,12 @@
-"""Rules of LANGUAGE.md that a test can see (L1 to L4, L7, L8, L10, L14, L15), no wider than the program needs."""
+"""Rules of LANGUAGE.md that a test can see (L1 to L5, L7, L8, L10, L12, L14 to L18, L25, L26).
+
+No wider than the program needs.
+"""
 
 import ast
 import builtins
 import pathlib
+import re
 import unittest
 
 PACKAGE = pathlib.Path(__file__).resolve().parent.parent / "bucketfall"
@@ -10,6 +14,13 @@ FILES = sorted(PACKAGE.rglob("*.py"))
 ALLOWED_BUILTINS = set(
     "len range enumerate zip min max sum abs sorted reversed int str bool list tuple dict set "
     "isinstance ord repr any all divmod ValueError KeyError IndexError".split()
+)
+# Of the methods that L25 allows, those that the program calls.
+ALLOWED_METHODS = set("append find join pop setdefault".split())
+BARRED_WORDS = set(
+    "register mro elements open input law version_info with_traceback add_note type typing typing_extensions enum Enum "
+    "IntEnum StrEnum Flag IntFlag Generic Protocol ABC ABCMeta namedtuple NamedTuple TypedDict TYPE_CHECKING "
+    "abstractmethod dataclass overload contextmanager".split()
 )
 
 
@@ -89,6 +100,52 @@ class Words(unittest.TestCase):
                     if isinstance(node, ast.Constant):
                         self.assertNotIsInstance(node.value, float)
                         self.assertFalse(isinstance(node.value, str) and "%" in node.value)
+
+    def test_barred_words(self):
+        for path in FILES:
+            with self.subTest(path=path.name):
+                self.assertFalse(BARRED_WORDS & set(re.findall("[A-Za-z_]+", path.read_text("ascii"))))
+
+    def test_names_are_plain(self):
+        for path, tree in trees():
+            for node in ast.walk(tree):
+                for name in [getattr(node, field, None) for field in ("id", "arg", "attr", "name")]:
+                    if isinstance(name, str) and name not in ("__init__", "_"):
+                        with self.subTest(path=path.name, name=name):
+                            self.assertRegex(name, "^_?[A-Za-z][A-Za-z0-9_]*$")
+
+
+class Classes(unittest.TestCase):
+    def test_what_stands_in_a_class(self):
+        for path, tree in trees():
+            for owner in [node for node in ast.walk(tree) if isinstance(node, ast.ClassDef)]:
+                self.assertIn(owner, tree.body)
+                methods = [node.name for node in owner.body if isinstance(node, ast.FunctionDef)]
+                assigned = [
+                    node.attr
+                    for node in ast.walk(owner)
+                    if isinstance(node, ast.Attribute) and isinstance(node.ctx, ast.Store)
+                ]
+                with self.subTest(path=path.name, owner=owner.name):
+                    self.assertEqual(len(owner.body), len(methods) + 1)
+                    self.assertIsNotNone(ast.get_docstring(owner))
+                    self.assertEqual(len(methods), len(set(methods)))
+                    self.assertFalse(set(methods) & set(assigned))
+
+    def test_methods_and_attributes_have_names_of_their_own(self):
+        own_methods, assigned, called, read = set(), set(), set(), set()
+        for _, tree in trees():
+            for node in ast.walk(tree):
+                if isinstance(node, ast.ClassDef):
+                    own_methods |= {part.name for part in node.body if isinstance(part, ast.FunctionDef)}
+                elif isinstance(node, ast.Call) and isinstance(node.func, ast.Attribute):
+                    called.add(node.func.attr)
+                elif isinstance(node, ast.Attribute):
+                    (assigned if isinstance(node.ctx, ast.Store) else read).add(node.attr)
+        taken = {name for kind in (str, int, list, dict, set, bytes, tuple) for name in dir(kind)}
+        self.assertEqual((own_methods | assigned) & taken, {"__init__"})
+        self.assertEqual(called - own_methods - ALLOWED_METHODS, set())
+        self.assertEqual(read - assigned - own_methods - ALLOWED_METHODS, set())
 
 
 if __name__ == "__main__":
