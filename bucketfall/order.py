@@ -6,10 +6,11 @@ from bucketfall.store import Store
 def ordered(things, base):
     """A new list of the things by their numbers, those of one number in the order in which they stood."""
     store = Store(base)
-    for number, name in things:
-        store.put(number, name)
+    # A thing goes into the store under its place in the list, so that the very tuple can be told again.
+    for at, thing in enumerate(things):
+        store.put(thing[0], str(at))
     found = []
     while store.many > 0:
-        number, name, _ = store.take()
-        found.append((number, name))
+        name = store.take()[1]
+        found.append(things[int(name)])
     return found

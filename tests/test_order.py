@@ -123,6 +123,12 @@ class Handed(unittest.TestCase):
         one.clear()
         self.assertEqual(other, [(1, "a"), (2, "b")])
 
+    def test_the_tuples_told_are_those_handed_in(self):
+        # Equal tuples that are not one object, so that it can be seen which is told first.
+        things = [tuple([number, "same"]) for number in (5, 3, 5, 3, 5)]
+        told = ordered(things, 10)
+        self.assertEqual([id(thing) for thing in told], [id(things[at]) for at in (1, 3, 0, 2, 4)])
+
     def test_what_is_told_stays_when_the_list_handed_in_changes(self):
         things = [(2, "b"), (1, "a")]
         told = ordered(things, 10)
